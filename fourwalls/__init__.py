@@ -1,0 +1,1 @@
+"""Fourwalls: floors that are cut in two by their faces, for all histories."""

@@ -1,0 +1,109 @@
+"""What the files of the package use and do not use."""
+
+import ast
+import pathlib
+import unittest
+
+PACKAGE = pathlib.Path(__file__).resolve().parent.parent / "fourwalls"
+FILES = sorted(PACKAGE.rglob("*.py"))
+LIBRARY = {
+    "heapq": {"heappush", "heappop", "heapify", "heapreplace", "heappushpop"},
+    "math": {"gcd", "lcm", "isqrt", "comb", "perm", "factorial"},
+    "itertools": {"product", "combinations", "permutations"},
+}
+BUILTINS = set(
+    "len range enumerate zip min max sum abs sorted reversed int str bool bytes list tuple dict set frozenset isinstance "
+    "ord repr any all divmod iter next map Exception ValueError TypeError KeyError IndexError LookupError "
+    "ZeroDivisionError ArithmeticError OverflowError RuntimeError NotImplementedError AttributeError StopIteration "
+    "NotImplemented super property staticmethod classmethod".split()
+)
+FORBIDDEN = (
+    ast.AsyncFunctionDef, ast.Await, ast.Global, ast.Import, ast.Div, ast.YieldFrom, ast.Set, ast.SetComp, ast.NamedExpr,
+    ast.Match, ast.Try, ast.With, ast.GeneratorExp, ast.Delete,
+)
+WORDS = ("%", "\t", "_wall", "dataclass", "typing", "namedtuple")
+
+
+def trees():
+    return [(path, ast.parse(path.read_text())) for path in FILES]
+
+
+def bound_names(tree):
+    """Return the names that a file binds: parameters, targets, functions, classes and imports."""
+    found = []
+    for node in ast.walk(tree):
+        if isinstance(node, ast.Name) and not isinstance(node.ctx, ast.Load):
+            found.append(node.id)
+        elif isinstance(node, ast.arg):
+            found.append(node.arg)
+        elif isinstance(node, (ast.FunctionDef, ast.ClassDef)):
+            found.append(node.name)
+        elif isinstance(node, ast.alias):
+            found.append(node.name)
+    return found
+
+
+class Language(unittest.TestCase):
+    def test_the_folder_holds_plain_files_alone(self):
+        held = [path for path in PACKAGE.rglob("*") if "__pycache__" not in path.parts]
+        self.assertEqual(sorted(held), FILES)
+
+    def test_imports_are_of_the_package(self):
+        for path, tree in trees():
+            for node in ast.walk(tree):
+                if isinstance(node, ast.ImportFrom):
+                    names = {one.name for one in node.names}
+                    own = node.module.startswith("fourwalls.") and node.level == 0
+                    self.assertTrue(own or names <= LIBRARY.get(node.module, set()), (path.name, node.lineno))
+
+    def test_sizes_and_characters(self):
+        for path, tree in trees():
+            text = path.read_text()
+            self.assertLess(len(text.splitlines()), 400, path.name)
+            self.assertTrue(all(" " <= letter <= "~" or letter == "\n" for letter in text), path.name)
+            for word in WORDS:
+                self.assertNotIn(word, text, path.name)
+            for at, line in enumerate(text.splitlines()):
+                self.assertLessEqual(len(line), 120, (path.name, at + 1))
+            for node in ast.walk(tree):
+                if isinstance(node, ast.FunctionDef):
+                    self.assertLess(node.end_lineno - node.lineno, 40, (path.name, node.name))
+
+    def test_statements_and_signs(self):
+        for path, tree in trees():
+            for node in ast.walk(tree):
+                self.assertFalse(isinstance(node, FORBIDDEN), (path.name, getattr(node, "lineno", 0)))
+                if isinstance(node, ast.Constant):
+                    self.assertNotIsInstance(node.value, (float, complex, bytes), (path.name, node.lineno))
+                if isinstance(node, ast.Compare):
+                    for sign, other in zip(node.ops, node.comparators):
+                        if isinstance(sign, (ast.Is, ast.IsNot)):
+                            self.assertIsInstance(other, ast.Constant, (path.name, node.lineno))
+
+    def test_builtins_are_those_of_the_language(self):
+        builtins = set(dir(__builtins__) if not isinstance(__builtins__, dict) else __builtins__)
+        for path, tree in trees():
+            bound = bound_names(tree)
+            methods = {node.name for one in ast.walk(tree) if isinstance(one, ast.ClassDef)
+                       for node in one.body if isinstance(node, ast.FunctionDef)}
+            self.assertEqual((set(bound) - methods) & builtins, set(), path.name)
+            used = {node.id for node in ast.walk(tree) if isinstance(node, ast.Name)}
+            self.assertEqual((used & builtins) - BUILTINS, set(), path.name)
+
+    def test_module_level_holds_no_code(self):
+        for path, tree in trees():
+            for node in tree.body:
+                docstring = isinstance(node, ast.Expr) and isinstance(node.value, ast.Constant)
+                plain = isinstance(node, (ast.ImportFrom, ast.FunctionDef, ast.ClassDef, ast.Assign))
+                self.assertTrue(docstring or plain, (path.name, node.lineno))
+
+    def test_every_function_tells_what_it_does(self):
+        for path, tree in trees():
+            self.assertTrue(ast.get_docstring(tree), path.name)
+            for node in ast.walk(tree):
+                if isinstance(node, ast.ClassDef) or isinstance(node, ast.FunctionDef) and node.name[:2] != "__":
+                    self.assertTrue(ast.get_docstring(node), (path.name, node.name))
+
+
+if __name__ == "__main__":
+    unittest.main()
