@@ -4,7 +4,7 @@ import itertools
 import unittest
 
 from fourwalls.books import Book
-from samples import CROSS, LINES, any_values, raised, told
+from samples import CHARACTERS, CROSS, LINES, any_values, raised, told
 
 LINE = (".", ".", ".", ".", ".", "|ab")
 
@@ -12,6 +12,9 @@ LINE = (".", ".", ".", ".", ".", "|ab")
 def wrong_lines():
     """Return values that are no line of a book with the faces ab and the cutters AB."""
     found = [value for value in any_values() if not isinstance(value, tuple) or len(value) != 6]
+    found += [(letter,) + LINE[1:] for letter in CHARACTERS if letter not in "ab."]
+    found += [LINE[:4] + (letter, "") for letter in CHARACTERS if letter not in "AB."]
+    found += [LINE[:5] + (letter,) for letter in CHARACTERS]
     found += [list(LINE), LINE[:5], LINE + (".",), (LINE,), "......", (1,) * 6, (True,) * 6]
     for at in range(4):
         for part in ("", "ba", "aa", "c", "ac", "A", "..", ".a", "a.", "none", "-", 1, True, None, ["a"], ("a",)):

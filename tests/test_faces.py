@@ -5,7 +5,7 @@ import unittest
 from fourwalls.faces import (
     MOST_TEXT, is_address, is_cut, is_cutters, is_faces, is_number, is_room, is_string, parts_of,
 )
-from samples import any_values
+from samples import CHARACTERS, any_values
 
 
 def accepted(form, *more):
@@ -73,6 +73,18 @@ class Forms(unittest.TestCase):
         for value in ("", "|", "|a", "|abb", "ab|", "+ab", ".ab", "|ac", "|ca", "-aB", "||a", "|-ab", "|-b", "none"):
             self.assertIs(is_cut(value, "ab"), False)
         self.assertEqual(accepted(is_cut, "ab"), [])
+
+
+    def test_every_character(self):
+        for letter in CHARACTERS:
+            self.assertIs(is_faces(letter), letter in "abcdefghijklmnopqrstuvwxyz")
+            self.assertIs(is_cutters(letter), letter in "ABCDEFGHIJKLMNOPQRSTUVWXYZ")
+            self.assertIs(is_address(letter), letter in "01")
+            self.assertIs(is_string(letter, "abd"), letter in "abd")
+            self.assertIs(is_room("aba" + letter, "abd"), letter in "abd")
+            self.assertIs(is_cut(letter + "ab", "abd"), letter in "|-")
+            self.assertIs(is_cut("|" + letter + "b", "abd"), letter in "abd")
+            self.assertIs(is_cut("-a" + letter, "abd"), letter in "abd")
 
 
 class Parts(unittest.TestCase):

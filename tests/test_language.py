@@ -17,11 +17,8 @@ BUILTINS = set(
     "ZeroDivisionError ArithmeticError OverflowError RuntimeError NotImplementedError AttributeError StopIteration "
     "NotImplemented super property staticmethod classmethod".split()
 )
-FORBIDDEN = (
-    ast.AsyncFunctionDef, ast.Await, ast.Global, ast.Import, ast.Div, ast.YieldFrom, ast.Set, ast.SetComp, ast.NamedExpr,
-    ast.Match, ast.Try, ast.With, ast.GeneratorExp, ast.Delete,
-)
-WORDS = ("%", "\t", "_wall", "dataclass", "typing", "namedtuple")
+FORBIDDEN = (ast.AsyncFunctionDef, ast.AsyncFor, ast.AsyncWith, ast.Await, ast.Global, ast.Import, ast.Div)
+WORDS = ("_wall", "dataclass", "typing", "namedtuple")
 
 
 def trees():
@@ -75,6 +72,7 @@ class Language(unittest.TestCase):
                 self.assertFalse(isinstance(node, FORBIDDEN), (path.name, getattr(node, "lineno", 0)))
                 if isinstance(node, ast.Constant):
                     self.assertNotIsInstance(node.value, (float, complex, bytes), (path.name, node.lineno))
+                    self.assertNotIn("%", str(node.value), (path.name, node.lineno))
                 if isinstance(node, ast.Compare):
                     for sign, other in zip(node.ops, node.comparators):
                         if isinstance(sign, (ast.Is, ast.IsNot)):
