@@ -30,10 +30,15 @@ def is_cutters(value):
     return is_choice(value, _UPPER, _MOST_CUTTERS)
 
 
+def is_integer(value):
+    """Tell whether a value is a number of any size."""
+    # True and False are integers of Python, but no numbers here.
+    return isinstance(value, int) and not isinstance(value, bool)
+
+
 def is_number(value, least, most):
     """Tell whether a value is a number from least to most."""
-    # True and False are integers of Python, but no numbers here.
-    return isinstance(value, int) and not isinstance(value, bool) and least <= value <= most
+    return is_integer(value) and least <= value <= most
 
 
 def is_address(value):

@@ -80,21 +80,28 @@ def reached(book, start):
     return sorted(list(origins_of(book, start)))
 
 
-def way_to(book, start, room):
-    """Return a history of as few steps as possible behind which a room stands, or None."""
-    check_room(book, start)
-    check_room(book, room)
-    origins = origins_of(book, start)
-    if room not in origins:
-        return None
+def turns_to(origins, room):
+    """Return the turns (room, cutter, index) that lead from the start to a room, of what origins_of gives."""
     turns = []
     origin = origins[room]
     while origin is not None:
         turns.append(origin)
         origin = origins[origin[0]]
+    return turns[::-1]
+
+
+def steps_along(turns, address):
+    """Return the steps of turns in a room with an address, and the address to which they lead."""
     steps = []
-    address = ""
-    for _, cutter, index in turns[::-1]:
+    for _, cutter, index in turns:
         steps.append((address, cutter))
-        address += str(index)
-    return steps
+        address = address + str(index)
+    return steps, address
+
+
+def way_to(book, start, room):
+    """Return a history of as few steps as possible behind which a room stands, or None."""
+    check_room(book, start)
+    check_room(book, room)
+    origins = origins_of(book, start)
+    return steps_along(turns_to(origins, room), "")[0] if room in origins else None

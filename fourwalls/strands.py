@@ -71,6 +71,22 @@ def folded(book, lines, leaf, over):
     return values
 
 
+def needed(lines, items):
+    """Return the lines that rows with these items use, and a dict of all their new items by the old ones."""
+    used = {item: True for item in items}
+    for at in range(len(lines) - 1, -1, -1):
+        if at in used:
+            used[lines[at][2]] = True
+            used[lines[at][3]] = True
+    places = {None: None, "-": "-"}
+    kept = []
+    for at, (room, cutter, first, second) in enumerate(lines):
+        if at in used:
+            places[at] = len(kept)
+            kept.append((room, cutter, places[first], places[second]))
+    return kept, places
+
+
 def chained(ends):
     """Return the ends of a row from each state, of those of its parts."""
     if len(ends) == 1:

@@ -1,13 +1,15 @@
 """Values of any kind: copies of them, and when two of them are equal."""
 
+from fourwalls.weights import Weights
+
 
 def copied(value):
-    """Return a value whose lists are new, also those inside of lists and tuples."""
+    """Return a value whose lists and weights are new, also those inside of lists and tuples."""
     if isinstance(value, list):
         return [copied(item) for item in value]
     if isinstance(value, tuple):
         return tuple([copied(item) for item in value])
-    return value
+    return value.copy() if isinstance(value, Weights) else value
 
 
 def listed(value):

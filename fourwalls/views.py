@@ -6,9 +6,11 @@ from fourwalls.rooms import check_room, grown
 
 VIEWS = "NESWAD"
 
+# The indexes of the parts that each rule names.
+NAMED = {"both": (0, 1), "first": (0,), "second": (1,), "either": (0, 1)}
+
 _UPRIGHT = {"N": "both", "E": "second", "S": "both", "W": "first", "A": "both", "D": "either"}
 _LEVEL = {"N": "first", "E": "both", "S": "second", "W": "both", "A": "either", "D": "both"}
-_NAMED = {"both": (0, 1), "first": (0,), "second": (1,), "either": (0, 1)}
 _MOST_ROWS = 2000
 _MOST_CUTS = 3
 
@@ -30,9 +32,14 @@ def rule(view, cut):
     return _UPRIGHT[view] if cut[0] == "|" else _LEVEL[view]
 
 
-def named_parts(view, cut):
-    """Return the tuple of the indexes of the parts that the rule of a view names."""
-    return _NAMED[rule(view, cut)]
+def splits(book, view, room):
+    """Return the triples (cutter, rule, parts) of the cuts of a room, in the order of the cutters."""
+    found = []
+    for cutter in book.cutters:
+        cut = book.cut(room, cutter)
+        if cut != "":
+            found.append((cutter, rule(view, cut), parts_of(room, cut)))
+    return found
 
 
 def members(book, start, view):
@@ -43,12 +50,8 @@ def members(book, start, view):
     waiting = [start]
     while waiting:
         room = waiting.pop()
-        for cutter in book.cutters:
-            cut = book.cut(room, cutter)
-            if cut == "":
-                continue
-            parts = parts_of(room, cut)
-            for index in named_parts(view, cut):
+        for _, how, parts in splits(book, view, room):
+            for index in NAMED[how]:
                 if parts[index] not in found:
                     found[parts[index]] = True
                     waiting.append(parts[index])
@@ -113,18 +116,15 @@ def cut_texts(book, view, room, cuts):
     if cuts == 0:
         return [room]
     found = []
-    for cutter in book.cutters:
-        cut = book.cut(room, cutter)
-        if cut != "":
-            found.extend(part_texts(book, view, room, cut, cuts - 1))
+    for _, how, parts in splits(book, view, room):
+        found.extend(part_texts(book, view, how, parts, cuts - 1))
     return found
 
 
-def part_texts(book, view, room, cut, cuts):
+def part_texts(book, view, how, parts, cuts):
     """Return the texts of the rows of a cut room whose parts have this number of cuts together."""
-    parts = parts_of(room, cut)
-    if rule(view, cut) != "both":
-        return [text for at in named_parts(view, cut) for text in cut_texts(book, view, parts[at], cuts)]
+    if how != "both":
+        return [text for at in NAMED[how] for text in cut_texts(book, view, parts[at], cuts)]
     found = []
     for many in range(cuts + 1):
         first = cut_texts(book, view, parts[0], many)

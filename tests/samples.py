@@ -4,6 +4,11 @@ import itertools
 from fractions import Fraction
 
 from fourwalls.books import Book
+from fourwalls.machines import Machine
+from fourwalls.papers import Paper
+from fourwalls.ratios import Ratio
+from fourwalls.strands import Strand
+from fourwalls.weights import Weights
 
 # Every character that a string may have.
 CHARACTERS = [chr(code) for code in range(ord(" "), ord("~") + 1)] + ["\n"]
@@ -18,6 +23,123 @@ LINES = (
 CROSS = Book("ab", "AB", (".", ".", ".", ".", "A", "|ab"), (".", ".", ".", ".", "B", "-ba"))
 
 
+# The rule of [7] for each sign and view.
+RULES = {
+    "|": {"N": "both", "E": "second", "S": "both", "W": "first", "A": "both", "D": "either"},
+    "-": {"N": "first", "E": "both", "S": "second", "W": "both", "A": "either", "D": "both"},
+}
+
+
+def cuts_of(book, view, room):
+    """Return the tuples (cutter, rule, first part, second part) of the cuts of a room."""
+    found = []
+    for cutter in book.cutters:
+        if book.cut(room, cutter) != "":
+            found.append((cutter, RULES[book.cut(room, cutter)[0]][view], *book.parts(room, cutter)))
+    return found
+
+
+def named(how, first, second):
+    """Return the parts that a rule names."""
+    return {"both": [first, second], "first": [first], "second": [second], "either": [first, second]}[how]
+
+
+def draw_room(draw, faces):
+    """Draw a room with these faces."""
+    return "".join(draw.choice(faces) for _ in range(4))
+
+
+def draw_choice(draw, letters, wild):
+    """Draw a part of a line: `.` with this chance, or some of the letters."""
+    if draw.random() < wild:
+        return "."
+    return "".join(sorted(draw.sample(letters, draw.randint(1, len(letters)))))
+
+
+def draw_book(draw, faces, cutters, many, wild=0.7):
+    """Draw a book with so many lines."""
+    lines = []
+    for _ in range(many):
+        cut = "" if draw.random() < 0.1 else draw.choice("|-") + draw.choice(faces) + draw.choice(faces)
+        sides = [draw_choice(draw, faces, wild) for _ in range(4)]
+        lines.append((*sides, draw_choice(draw, cutters, wild / 2), cut))
+    return Book(faces, cutters, *lines)
+
+
+def draw_machine(draw, faces, most=6):
+    """Draw a machine: one of the three kinds that have names, or any table."""
+    text = "".join(draw.choice(faces) for _ in range(draw.randint(1, 4)))
+    modulus = draw.randint(2, 5)
+    size = draw.randint(1, most)
+    table = [[draw.randrange(size) for _ in faces] for _ in range(size)]
+    return draw.choice([
+        Machine.without(faces, text), Machine.begins(faces, text),
+        Machine.counted(faces, draw.choice(faces), modulus, rest=draw.randrange(modulus)),
+        Machine(faces, table, sorted(draw.sample(range(size), draw.randint(0, size // 2)))),
+    ])
+
+
+def draw_history(draw, book, start, most):
+    """Draw a history of up to so many steps, of which some may go away."""
+    standing = {"": start}
+    history = []
+    for _ in range(draw.randint(0, most)):
+        address = draw.choice(sorted(standing))
+        cutter = draw.choice(book.cutters)
+        history.append((address, cutter))
+        parts = book.parts(standing[address], cutter)
+        if len(parts) == 2:
+            del standing[address]
+            standing[address + "0"], standing[address + "1"] = parts
+    return history
+
+
+PLACES = ((1, 2), (1, 3), (2, 3), (1, 4), (3, 4), (2, 4))
+
+
+def draw_steps(draw, book, start, most, places=PLACES):
+    """Draw a placed history of up to so many steps, of which some may go away, with some of these places."""
+    return [step + draw.choice(places) for step in draw_history(draw, book, start, most)]
+
+
+def laid_out(book, start, steps):
+    """Return a dict by addresses of the (room, west, north, east, south) behind a placed history, with fractions."""
+    floor = {"": (start, Fraction(0), Fraction(0), Fraction(1), Fraction(1))}
+    for address, cutter, top, bottom in steps:
+        room, west, north, east, south = floor[address]
+        parts = book.parts(room, cutter)
+        if len(parts) == 2:
+            del floor[address]
+            if book.cut(room, cutter)[0] == "|":
+                at = west + (east - west) * Fraction(top, bottom)
+                boxes = ((west, north, at, south), (at, north, east, south))
+            else:
+                at = north + (south - north) * Fraction(top, bottom)
+                boxes = ((west, north, east, at), (west, at, east, south))
+            for index in (0, 1):
+                floor[address + str(index)] = (parts[index], *boxes[index])
+    return floor
+
+
+def meeting_out(floor):
+    """Return the sorted triples of the rooms that meet in a floor with fractions."""
+    found = []
+    for one, (_, west, north, east, south) in floor.items():
+        for other, (_, west2, north2, east2, south2) in floor.items():
+            if east == west2 and min(south, south2) > max(north, north2):
+                found.append(("|", one, other))
+            if south == north2 and min(east, east2) > max(west, west2):
+                found.append(("-", one, other))
+    return sorted(found)
+
+
+def draw_question(draw, most=4):
+    """Draw a book of one up to most faces, a start, and a view."""
+    faces = "abcdef"[:draw.randint(1, most)]
+    book = draw_book(draw, faces, "ABCD"[:draw.randint(1, 4)], draw.randint(0, 8), draw.choice([0.4, 0.6, 0.8]))
+    return book, draw_room(draw, faces), draw.choice("NESWAD")
+
+
 def any_values():
     """Return values of every kind that a caller may pass for a wrong argument."""
     return [
@@ -26,6 +148,8 @@ def any_values():
         [], (), [[]], ((),), [1], (1,), ["a"], ("a",), [True], (None,), ["aaaa", "A"], ("", "A"), ["", "A"],
         ("", ["A"]), ([""], "A"), (("",), "A"), (["a", ("b", [1, (True, [None])])],), [[[[[[1]]]]]],
         Book("ab", "A"), (Book("ab", "A"),), [Book("ab", "A"), 1],
+        Machine("q", [(0,)]), Weights("q", q=1), [("aaaa", Weights("ab"))],
+        Strand(CROSS, "aaaa", "N", [], None), Paper(CROSS, "aaaa"), Ratio(1, 2), (Ratio(1, 2),),
     ]
 
 

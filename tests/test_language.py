@@ -88,6 +88,37 @@ class Language(unittest.TestCase):
             used = {node.id for node in ast.walk(tree) if isinstance(node, ast.Name)}
             self.assertEqual((used & builtins) - BUILTINS, set(), path.name)
 
+    def test_imports_and_classes_are_bound_once(self):
+        for path, tree in trees():
+            bound = bound_names(tree)
+            for node in tree.body:
+                names = [one.name for one in node.names] if isinstance(node, ast.ImportFrom) else []
+                for name in names + ([node.name] if isinstance(node, ast.ClassDef) else []):
+                    self.assertEqual(bound.count(name), 1, (path.name, name))
+
+    def test_no_generator_expressions_and_no_tries(self):
+        for path, tree in trees():
+            for node in ast.walk(tree):
+                self.assertNotIsInstance(node, (ast.GeneratorExp, ast.Try, ast.Match, ast.With), path.name)
+
+    def test_not_implemented_is_returned_alone(self):
+        for path, tree in trees():
+            returned = [node.value for node in ast.walk(tree) if isinstance(node, ast.Return)]
+            for node in ast.walk(tree):
+                if isinstance(node, ast.Name) and node.id == "NotImplemented":
+                    self.assertIn(node, returned, (path.name, node.lineno))
+
+    def test_operators_change_nothing_in_place(self):
+        operators = {"add", "sub", "mul", "rmul", "neg", "and", "or", "invert", "contains", "getitem", "eq", "bool",
+                     "repr", "len"}
+        for path, tree in trees():
+            for node in ast.walk(tree):
+                if isinstance(node, ast.FunctionDef) and node.name[2:-2] in operators and node.name[:2] == "__":
+                    for one in ast.walk(node):
+                        self.assertNotIsInstance(one, (ast.AugAssign, ast.Lambda), (path.name, node.name))
+                        if isinstance(one, ast.Attribute):
+                            self.assertIsInstance(one.ctx, ast.Load, (path.name, node.name))
+
     def test_module_level_holds_no_code(self):
         for path, tree in trees():
             for node in tree.body:
