@@ -62,14 +62,14 @@ def overlap_of(text, seen):
 
 
 def pairs_of(one, other):
-    """Return the pairs of states that two machines come to together, and the table of these pairs."""
+    """Return the pairs of states that machines with two tables come to together, and the table of these pairs."""
     places = {(0, 0): 0}
     pairs = [(0, 0)]
     table = []
     while len(table) < len(pairs):
         left, right = pairs[len(table)]
         row = []
-        for pair in zip(one.row(left), other.row(right)):
+        for pair in zip(one[left], other[right]):
             if pair not in places:
                 if len(pairs) == Machine.MOST:
                     raise TooMany(Machine.MOST)
@@ -109,10 +109,6 @@ class Machine:
         """Return the list of the tuples of next states."""
         return list(self._table)
 
-    def row(self, state):
-        """Return the tuple of the next states of a state."""
-        return self._table[state]
-
     def bad(self):
         """Return the list of the bad states."""
         return list(self._bad)
@@ -137,14 +133,15 @@ class Machine:
 
     def __and__(self, other):
         check_other(self, other)
-        pairs, table = pairs_of(self, other)
-        bad = [at for at, (one, two) in enumerate(pairs) if self.is_bad(one) or other.is_bad(two)]
+        # An operator comes to no method, for another class may have one of the same name.
+        pairs, table = pairs_of(self._table, other._table)
+        bad = [at for at, (one, two) in enumerate(pairs) if one in self._bad or two in other._bad]
         return Machine(self.faces, table, bad)
 
     def __or__(self, other):
         check_other(self, other)
-        pairs, table = pairs_of(self, other)
-        bad = [at for at, (one, two) in enumerate(pairs) if self.is_bad(one) and other.is_bad(two)]
+        pairs, table = pairs_of(self._table, other._table)
+        bad = [at for at, (one, two) in enumerate(pairs) if one in self._bad and two in other._bad]
         return Machine(self.faces, table, bad)
 
     def __eq__(self, other):
