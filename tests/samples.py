@@ -3,7 +3,10 @@
 import itertools
 from fractions import Fraction
 
+from fourwalls.alike import Alike
+from fourwalls.back import Back, Come
 from fourwalls.books import Book
+from fourwalls.grids import Plan
 from fourwalls.machines import Machine
 from fourwalls.papers import Paper
 from fourwalls.ratios import Ratio
@@ -22,6 +25,8 @@ LINES = (
 # The book of the examples: one cutter cuts upright, the other one level.
 CROSS = Book("ab", "AB", (".", ".", ".", ".", "A", "|ab"), (".", ".", ".", ".", "B", "-ba"))
 
+# A plan with faces that no other sample has.
+PLAIN_PLAN = Plan("q", 1, 1, [(0, 0, 1, 1, "qqqq")])
 
 # The rule of [7] for each sign and view.
 RULES = {
@@ -150,6 +155,8 @@ def any_values():
         Book("ab", "A"), (Book("ab", "A"),), [Book("ab", "A"), 1],
         Machine("q", [(0,)]), Weights("q", q=1), [("aaaa", Weights("ab"))],
         Strand(CROSS, "aaaa", "N", [], None), Paper(CROSS, "aaaa"), Ratio(1, 2), (Ratio(1, 2),),
+        PLAIN_PLAN, [PLAIN_PLAN], Back(Book("q", "Q"), "qqqq", PLAIN_PLAN), Come(CROSS, "aaaa", PLAIN_PLAN, []),
+        Alike(CROSS, CROSS, "aaaa", []),
     ]
 
 

@@ -96,10 +96,42 @@ class Language(unittest.TestCase):
                 for name in names + ([node.name] if isinstance(node, ast.ClassDef) else []):
                     self.assertEqual(bound.count(name), 1, (path.name, name))
 
-    def test_no_generator_expressions_and_no_tries(self):
+    def test_no_generator_expressions(self):
         for path, tree in trees():
             for node in ast.walk(tree):
-                self.assertNotIsInstance(node, (ast.GeneratorExp, ast.Try, ast.Match, ast.With), path.name)
+                self.assertNotIsInstance(node, (ast.GeneratorExp, ast.Match, ast.With), path.name)
+
+    def test_tries_catch_own_errors_alone_and_end_with_plain_assignments(self):
+        errors = [tree for path, tree in trees() if path.stem == "errors"]
+        own = {node.name for node in errors[0].body if isinstance(node, ast.ClassDef)}
+        for path, tree in trees():
+            for node in ast.walk(tree):
+                if isinstance(node, ast.ExceptHandler):
+                    caught = {one.id for one in ast.walk(node.type) if isinstance(one, ast.Name)}
+                    self.assertTrue(caught and caught <= own, (path.name, node.lineno))
+                if isinstance(node, ast.Try):
+                    for one in node.finalbody:
+                        self.assertIsInstance(one, ast.Assign, (path.name, one.lineno))
+                        self.assertIsInstance(one.value, ast.Constant, (path.name, one.lineno))
+
+    def test_methods_and_attributes_have_unlike_names(self):
+        methods = set()
+        attributes = set()
+        for _, tree in trees():
+            for node in ast.walk(tree):
+                if isinstance(node, ast.ClassDef):
+                    plain = [one for one in node.body if isinstance(one, ast.FunctionDef)]
+                    methods |= {one.name for one in plain if not any(
+                        isinstance(mark, (ast.Attribute, ast.Name)) for mark in one.decorator_list)}
+                elif isinstance(node, ast.Attribute) and isinstance(node.ctx, ast.Store):
+                    attributes.add(node.attr)
+        self.assertEqual(methods & attributes, set())
+
+    def test_the_names_of_generators_are_their_own(self):
+        functions = [node for _, tree in trees() for node in ast.walk(tree) if isinstance(node, ast.FunctionDef)]
+        for node in functions:
+            if any(isinstance(one, (ast.Yield, ast.YieldFrom)) for one in ast.walk(node)):
+                self.assertEqual([one.name for one in functions].count(node.name), 1, node.name)
 
     def test_not_implemented_is_returned_alone(self):
         for path, tree in trees():

@@ -3,11 +3,15 @@
 import random
 import unittest
 
+from fourwalls.alike import Alike, Apart
+from fourwalls.back import Barred, Come
 from fourwalls.books import Book
+from fourwalls.grids import Plan
 from fourwalls.kept import Broken, Safe, verdict
 from fourwalls.machines import Machine
 from fourwalls.papers import Paper
 from fourwalls.strands import Strand
+from fourwalls.touch import Touch
 from fourwalls.weigh import Peak, Rise, greatest
 from fourwalls.weights import Weights
 from samples import CROSS, any_values, draw_book, draw_machine, draw_room
@@ -15,6 +19,8 @@ from samples import CROSS, any_values, draw_book, draw_machine, draw_room
 UPRIGHT = Book("ab", "AB", (".", ".", ".", ".", "A", "|ab"))
 WITHOUT = Machine.without("ab", "bb")
 HEAVY = Weights("ab", each=1, b=2)
+HALVES = Plan("ab", 2, 1, [(0, 0, 1, 1, "aaaa"), (1, 0, 2, 1, "aaab")])
+UNMADE = Plan("ab", 2, 1, [(0, 0, 1, 1, "aaaa"), (1, 0, 2, 1, "bbbb")])
 
 SAFE = verdict(UPRIGHT, "aaaa", "N", WITHOUT)
 PEAK = greatest(UPRIGHT, "aaaa", "E", HEAVY)
@@ -28,8 +34,20 @@ RIGHT = {
     "peak": (Peak, {"view": "E", "weights": HEAVY, "heights": PEAK.heights(), "strand": PEAK.strand}, "peak 3"),
     "rise": (Rise, {"view": "N", "weights": HEAVY, "lines": [("aaab", "A", None, None)], "way": [("aaaa", "A", 1, None)],
                     "ring": [("aaab", "A", 0, 0)]}, "rise by 6"),
+    "touch": (Touch, {"sign": "|", "steps": [("", "A", 1, 2)], "one": "0", "other": "1"}, "touch aaaa | aaab"),
+    "come": (Come, {"plan": HALVES, "steps": [("", "A", 1, 2)]}, "come"),
+    "barred": (Barred, {"plan": UNMADE, "boxes": [(0, 0, 1, 1), (1, 0, 2, 1)]}, "barred"),
+    "alike": (Alike, {"other": Book("ab", "AB", *UPRIGHT.lines(), (".", ".", ".", ".", "B", "")), "rooms": ["aaaa", "aaab"]},
+              "alike"),
+    "apart": (Apart, {"other": Book("ab", "AB"), "history": [("", "A")]}, "apart"),
 }
-LISTS = ("table", "heights", "lines", "way", "ring")
+LISTS = ("table", "heights", "lines", "way", "ring", "steps", "boxes", "rooms", "history")
+
+
+def made(word, start="aaaa", book=UPRIGHT, **changed):
+    """Return the right paper with a word, with some of its arguments changed."""
+    kind, given, _ = RIGHT[word]
+    return kind(start=start, book=book, **{**given, **changed})
 
 
 def is_list(value):
@@ -53,15 +71,24 @@ class Base(unittest.TestCase):
 class All(unittest.TestCase):
     def test_right_papers(self):
         for word, (kind, given, says) in RIGHT.items():
-            paper = kind(UPRIGHT, "aaaa", **given)
+            paper = made(word)
             self.assertTrue(issubclass(kind, Paper))
-            self.assertEqual((kind.WORD, paper.WORD, repr(paper), paper.told()), (word, word, f"Paper({word})", says))
+            self.assertEqual((kind.WORD, paper.WORD, repr(paper)), (word, word, f"Paper({word})"))
+            self.assertEqual((paper.told(), paper.told()), (says, says))
             self.assertIs(paper.holds(), True)
             self.assertIs(paper.holds(), True)
             self.assertEqual((paper.book, paper.start), (UPRIGHT, "aaaa"))
             for name, value in given.items():
                 self.assertEqual(getattr(paper, name)() if name in LISTS else getattr(paper, name), value)
-            self.assertEqual(kind(UPRIGHT, "aaaa", *given.values()).told(), says)
+
+    def test_arguments_by_position(self):
+        for word, (kind, given, says) in RIGHT.items():
+            values = list(given.values())
+            if word in ("alike", "apart"):
+                paper = kind(UPRIGHT, values[0], "aaaa", values[1])
+            else:
+                paper = kind(UPRIGHT, "aaaa", *values)
+            self.assertEqual((paper.told(), paper.holds()), (says, True))
 
     def test_methods_are_those_of_the_class_itself(self):
         for kind, given, _ in RIGHT.values():
@@ -73,41 +100,44 @@ class All(unittest.TestCase):
         for word, (kind, given, _) in RIGHT.items():
             for value in any_values():
                 for name in given:
-                    paper = kind(UPRIGHT, "aaaa", **{**given, name: value})
+                    paper = made(word, **{name: value})
                     kept = getattr(paper, name)() if name in LISTS else getattr(paper, name)
                     expected = list(value) if name in LISTS and is_list(value) else value
                     self.assertEqual(repr(kept), repr(expected))
                     # A walk across has the rows of the north side here, as there is no level cut.
-                    right = (name, value) == ("view", "A") and word in ("safe", "rise")
+                    right = (word, name, value) in (("safe", "view", "A"), ("rise", "view", "A"), ("touch", "sign", "|"))
                     self.assertIs(paper.holds(), right, (word, name, value))
                     self.assertEqual(repr(paper), f"Paper({word})")
                     self.assertTrue(paper.told().startswith(word))
                 if value != "aaaa":
-                    paper = kind(UPRIGHT, value, **given)
+                    paper = made(word, value)
                     self.assertEqual(repr(paper.start), repr(value))
                     self.assertIs(paper.holds(), False, (word, value))
 
     def test_any_value_at_all_places(self):
-        for word, (kind, given, _) in RIGHT.items():
+        for word, (_, given, _) in RIGHT.items():
             for value in any_values():
-                paper = kind(UPRIGHT, value, **{name: value for name in given})
+                paper = made(word, value, **{name: value for name in given})
                 self.assertEqual((paper.holds(), repr(paper)), (False, f"Paper({word})"))
 
     def test_other_starts_views_and_books(self):
-        for word, (kind, given, _) in RIGHT.items():
+        for word, (_, given, _) in RIGHT.items():
             for start in ("aaac", "aaa", "aaaaa", "bbbb", "AAAA", ""):
-                self.assertIs(kind(UPRIGHT, start, **given).holds(), False, (word, start))
-            for view in ("X", "n", "NE", "", "I"):
-                self.assertIs(kind(UPRIGHT, "aaaa", **{**given, "view": view}).holds(), False, (word, view))
-            for book in (Book("abc", "AB", *UPRIGHT.lines()), Book("ac", "A")):
-                self.assertIs(kind(book, "aaaa", **given).holds(), False, (word, book.faces))
+                right = start == "bbbb" and word in ("touch", "barred", "apart")
+                self.assertIs(made(word, start).holds(), right, (word, start))
+            for view in ("X", "n", "NE", "", "I") if "view" in given else ():
+                self.assertIs(made(word, view=view).holds(), False, (word, view))
+            self.assertIs(made(word, book=Book("ac", "A")).holds(), False, word)
+            other = Book("abc", "AB", *UPRIGHT.lines())
+            # A touch has nothing besides the book that has faces.
+            self.assertIs(made(word, book=other).holds(), word == "touch", word)
 
     def test_lists_that_are_passed_and_returned_are_copied(self):
-        for kind, given, _ in RIGHT.values():
+        for word, (_, given, _) in RIGHT.items():
             for name in [name for name in given if name in LISTS]:
                 inside = [1]
                 value = [("aaaa", inside), [inside, 2], 3]
-                paper = kind(UPRIGHT, "aaaa", **{**given, name: value})
+                paper = made(word, **{name: value})
                 inside.append(4)
                 value.append(5)
                 expected = [("aaaa", [1]), [[1], 2], 3]
@@ -118,42 +148,48 @@ class All(unittest.TestCase):
                 kept[1].append(6)
                 kept.append(6)
                 self.assertEqual(getattr(paper, name)(), expected)
-                self.assertEqual(getattr(kind(UPRIGHT, "aaaa", **{**given, name: tuple(expected)}), name)(), expected)
+                self.assertEqual(getattr(made(word, **{name: tuple(expected)}), name)(), expected)
 
     def test_attributes_are_copied(self):
-        for kind, given, _ in RIGHT.values():
+        for word, (_, given, _) in RIGHT.items():
             for name in [name for name in given if name not in LISTS]:
                 value = [1, [2]]
-                paper = kind(UPRIGHT, value, **{**given, name: value})
+                paper = made(word, value, **{name: value})
                 value[1].append(3)
                 value.append(4)
                 self.assertEqual((paper.start, getattr(paper, name)), ([1, [2]], [1, [2]]))
 
     def test_item_without_its_form(self):
-        for word, (kind, given, _) in RIGHT.items():
+        for word, (_, given, _) in RIGHT.items():
             for name in [name for name in given if name in LISTS]:
                 right = given[name]
                 for value in any_values():
                     for at in range(len(right) + 1):
-                        bent = right[:at] + [value] + right[at:]
-                        self.assertIs(kind(UPRIGHT, "aaaa", **{**given, name: bent}).holds(), False, (word, name, value))
+                        paper = made(word, **{name: right[:at] + [value] + right[at:]})
+                        self.assertIs(paper.holds(), (word, value) == ("alike", "aaaa"), (word, name, value))
                 for at, item in enumerate(right):
-                    for place in range(len(item)):
-                        for value in any_values() + [item]:
-                            if repr(value) == repr(item[place]) or self.is_right_too(word, name, value, item, place):
-                                continue
-                            bent = list(right)
-                            bent[at] = item[:place] + (value,) + item[place + 1:]
-                            paper = kind(UPRIGHT, "aaaa", **{**given, name: bent})
-                            self.assertIs(paper.holds(), False, (word, name, bent))
-                    for bent in (list(item), item[:-1], item + (None,), (), item[1:], item + item):
-                        paper = kind(UPRIGHT, "aaaa", **{**given, name: right[:at] + [bent] + right[at + 1:]})
+                    for bent in self.bent(word, name, item):
+                        paper = made(word, **{name: right[:at] + [bent] + right[at + 1:]})
                         self.assertIs(paper.holds(), False, (word, name, bent))
+
+    def bent(self, word, name, item):
+        """Return items that are not right in the place of a right one."""
+        found = [list(item), item[:-1], (), item[1:], item + item, (item,)]
+        if isinstance(item, str):
+            return found + [item + "a", item[:3] + "c", tuple(item), "bbbb", ""]
+        found.append(item + (None,))
+        for place in range(len(item)):
+            for value in any_values() + [item]:
+                if repr(value) != repr(item[place]) and not self.is_right_too(word, name, value, item, place):
+                    found.append(item[:place] + (value,) + item[place + 1:])
+        return found
 
     def is_right_too(self, word, name, value, item, place):
         """Tell whether another value at this place leaves the paper right."""
         if word == "peak" and place == 1 and isinstance(value, int) and not isinstance(value, bool):
             return item[0] != "aaaa" and value >= item[1]
+        if word == "touch":
+            return (place, value) == (3, 999999999999999999)
         # An item may be None or the index of a line with the room aaab; the ring goes round by either part.
         return word == "rise" and (name, place) in (("ring", 3), ("way", 3), ("ring", 2)) and repr(value) in (
             "None", "0", "1") and (name, place, value) not in (("way", 3, 0), ("way", 3, 1), ("ring", 3, 1))
