@@ -6,7 +6,9 @@ from fractions import Fraction
 from fourwalls.alike import Alike
 from fourwalls.back import Back, Come
 from fourwalls.books import Book
+from fourwalls.desk import Desk
 from fourwalls.grids import Plan
+from fourwalls.live import Floor
 from fourwalls.machines import Machine
 from fourwalls.papers import Paper
 from fourwalls.ratios import Ratio
@@ -156,7 +158,8 @@ def any_values():
         Machine("q", [(0,)]), Weights("q", q=1), [("aaaa", Weights("ab"))],
         Strand(CROSS, "aaaa", "N", [], None), Paper(CROSS, "aaaa"), Ratio(1, 2), (Ratio(1, 2),),
         PLAIN_PLAN, [PLAIN_PLAN], Back(Book("q", "Q"), "qqqq", PLAIN_PLAN), Come(CROSS, "aaaa", PLAIN_PLAN, []),
-        Alike(CROSS, CROSS, "aaaa", []),
+        Alike(CROSS, CROSS, "aaaa", []), Floor(Book("q", "Q"), "qqqq"), [Floor(CROSS, "aaaa")],
+        Desk(Floor(Book("q", "Q"), "qqqq")),
     ]
 
 

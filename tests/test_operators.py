@@ -23,14 +23,19 @@ def is_property(node):
     return any(isinstance(one, ast.Name) and one.id == "property" for one in node.decorator_list)
 
 
+def is_setter(node):
+    return any(isinstance(one, ast.Attribute) and one.attr == "setter" for one in node.decorator_list)
+
+
 def functions_in(tree):
-    """Return the triples (class name or None, name, node) of the functions and methods of a file."""
+    """Return the triples (class name or None, name, node) of the functions and methods of a file, without setters."""
     found = []
     for node in tree.body:
         if isinstance(node, ast.FunctionDef):
             found.append((None, node.name, node))
         elif isinstance(node, ast.ClassDef):
-            found += [(node.name, one.name, one) for one in node.body if isinstance(one, ast.FunctionDef)]
+            methods = [one for one in node.body if isinstance(one, ast.FunctionDef) and not is_setter(one)]
+            found += [(node.name, one.name, one) for one in methods]
     return found
 
 
