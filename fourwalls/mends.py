@@ -32,6 +32,9 @@ def has_part(found, lines):
 def least_mutes(book, start, view, machine):
     """Return the list of the least tuples of lines such that the book is safe with these lines muted."""
     check_question(book, start, view, machine)
+    # The start alone is a row of every book.
+    if start not in machine:
+        return []
     found = []
     # The lines that make no row are in no least tuple.
     for lines in choices_of(lines_in_use(book, start, view)):

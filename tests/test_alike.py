@@ -162,7 +162,7 @@ class Compare(unittest.TestCase):
             if value != "aaaa":
                 for other in (Book("abc", "A"), CROSS):
                     self.assertEqual(told(raised(compare, CROSS, other, value)), ("InvalidRoom", {"given": value}))
-        for other in (Book("abc", "AB"), Book("abc", "A"), Book("a", "C"), Book("ac", "AB")):
+        for other in (Book("abc", "AB"), Book("abc", "A"), Book("a", "C"), Book("ac", "AB"), None, "ab"):
             self.assertEqual(told(raised(compare, CROSS, other, "aaaa")), ("OtherFaces", {}))
         for other in (Book("ab", "A"), Book("ab", "ABC"), Book("ab", "AC")):
             self.assertEqual(told(raised(compare, CROSS, other, "aaaa")), ("OtherCutters", {}))

@@ -262,7 +262,7 @@ class Lines(unittest.TestCase):
             ("wish X counted b 8 8", "error InvalidRest"), ("wish X counted b 8 x", "error InvalidRest"),
             ("wish X counted b 8 0007", "error InvalidRest"), ("wish X counted b 8 7", "error InvalidView"),
             ("wish X counted ab 8 7", "error InvalidFace"), ("wish NE begins a", "error InvalidView"),
-            ("wish N", "unknown"), ("wish", "unknown"), ("wish N without", "unknown"), ("wish N without a b", "unknown"),
+            ("wish N", "unknown"), ("wish", "unknown"), ("wish N without", "unknown"), ("wish N without a b", "unknown"), ("wish N without a b c", "unknown"),
             ("wish N begins", "unknown"), ("wish N begins a b c", "unknown"), ("wish N counted b 2", "unknown"),
             ("wish N counted b 2 0 0", "unknown"), ("wish N counted b", "unknown"), ("wish X within ab", "unknown"),
             ("wish N within a b c", "unknown"), ("wish without ab", "unknown"), ("wish N Without ab", "unknown"),

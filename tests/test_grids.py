@@ -107,6 +107,11 @@ class Made(unittest.TestCase):
         self.assertEqual(Plan(FACES, 3, 2, [ROOMS[0], (1, 0, 3, 1, "abab"), ROOMS[2]]).room_of((1, 0, 3, 2)), None)
         self.assertEqual(Plan(FACES, 3, 2, [ROOMS[0], (1, 0, 3, 1, "abaa"), ROOMS[2]]).room_of((1, 0, 3, 2)), "abba")
 
+    def test_what_is_no_rectangle_makes_no_room(self):
+        plan = Plan(FACES, 3, 2, ROOMS)
+        for value in any_values() + [(0, 0, 4, 2), (0, 0, 0, 2), (True, 0, 3, 1), [0, 0, 1, 2], (0, 0, 1, 2, "aaba"), (-1, 0, 1, 2)]:
+            self.assertIsNone(plan.room_of(value))
+
     def test_all_rectangles(self):
         draw = random.Random(302)
         made = 0

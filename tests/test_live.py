@@ -463,6 +463,11 @@ class Twins(unittest.TestCase):
         self.assertIs(one == other, False)
         other.cut("0", "A", 1, 4)
         self.assertIs(one == other, False)
+        for given in (("aaab", CROSS), ("bbbb", CROSS), ("aaaa", Book("ab", "AB", *CROSS.lines(), (*ANY, ".", "")))):
+            other = Floor(given[1], given[0])
+            other.cut_all(*floor.cuts())
+            self.assertEqual(other.plain(), floor.plain())
+            self.assertIs(floor == other, False)
         # Unlike cutters that cut alike make unlike floors.
         twice = Book("ab", "AB", (*ANY, ".", "|ab"))
         one, other = Floor(twice, "aaaa"), Floor(twice, "aaaa")
