@@ -12,7 +12,7 @@ from fourwalls.touch import stands
 from fourwalls.views import rows_behind
 
 
-def is_turn(value, cutters):
+def has_step_form(value, cutters):
     """Tell whether a value has the form of a placed step, to a room that may stand or not."""
     if not isinstance(value, tuple) or len(value) != 4:
         return False
@@ -90,7 +90,7 @@ class Floor:
         self.busy = True
         try:
             for at, step in enumerate(steps):
-                if not is_turn(step, self.book.cutters):
+                if not has_step_form(step, self.book.cutters):
                     raise InvalidStep(at)
             return self._cut_by(steps)
         finally:
