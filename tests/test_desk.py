@@ -12,7 +12,7 @@ from fourwalls.machines import Machine
 from fourwalls.rooms import reached
 from fourwalls.touch import touch_of
 from floors import Model, draw_turn, outcome, seen_of
-from samples import CHARACTERS, CROSS, draw_question, draw_room, raised, told
+from samples import CHARACTERS, CROSS, draw_question, draw_room
 
 ANY = (".", ".", ".", ".")
 THREE = Book("ab", "ABC", *CROSS.lines())

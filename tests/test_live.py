@@ -11,7 +11,7 @@ from fourwalls.ratios import Ratio
 from fourwalls.strands import Strand, strand_of
 from fourwalls.views import rows_seen
 from floors import Model, do_turn, draw_turn, outcome, seen_of, seen_of_model
-from samples import CROSS, any_values, draw_book, draw_question, draw_room, laid_out, meeting_out, raised, told
+from samples import CROSS, any_values, draw_question, laid_out, meeting_out, raised, told
 
 ANY = (".", ".", ".", ".")
 # C goes away everywhere.

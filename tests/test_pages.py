@@ -8,7 +8,7 @@ from fourwalls.books import Book
 from fourwalls.live import Floor
 from fourwalls.pages import columns, read_page, write_page
 from floors import Model, draw_turn, outcome, seen_of
-from samples import CHARACTERS, CROSS, any_values, draw_book, draw_question, draw_room, laid_out, raised, told
+from samples import CHARACTERS, CROSS, any_values, draw_question, draw_room, laid_out, raised, told
 
 ANY = (".", ".", ".", ".")
 THREE = Book("ab", "ABC", *CROSS.lines())
